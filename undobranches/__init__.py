@@ -1,0 +1,1 @@
+"""The undo tree of a text editor: the complete history of one text."""
