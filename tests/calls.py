@@ -7,6 +7,9 @@ OPEN_GROUP = [3]
 CLOSE_GROUP = [4]
 UNDO = [5]
 REDO = [6]
+GET_TEXT = [11]
+LEAVES = [13]
+ORIGINS = [15]
 
 
 def start(text=()):
@@ -36,6 +39,34 @@ def earlier(n):
 
 def later(n):
     return [9, n]
+
+
+def ago(ticks):
+    return [10, ticks]
+
+
+def state_info(state):
+    return [12, state]
+
+
+def path(from_state, to_state):
+    return [14, from_state, to_state]
+
+
+def revert(state):
+    return [16, state]
+
+
+def set_kept(state, kept):
+    return [17, state, kept]
+
+
+def forget(limit):
+    return [18, limit]
+
+
+def text_of(state):
+    return [19, state]
 
 
 def run(*calls):

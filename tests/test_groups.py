@@ -1,7 +1,8 @@
 import unittest
 
-from tests.calls import (CLOSE_GROUP, MOST, OPEN_GROUP, REDO, UNDO, change, earlier, go_to, insert, later, run,
-                         run_after, start, wait)
+from tests.calls import (CLOSE_GROUP, GET_TEXT, LEAVES, MOST, OPEN_GROUP, ORIGINS, REDO, UNDO, ago, change, earlier,
+                         forget, go_to, insert, later, path, revert, run, run_after, set_kept, start, state_info,
+                         text_of, wait)
 
 
 class Groups(unittest.TestCase):
@@ -75,11 +76,23 @@ class RefusedGroups(unittest.TestCase):
 
     def test_no_move_while_a_group_is_open(self):
         before = [insert(1), insert(1), insert(1), UNDO, OPEN_GROUP]
-        for move in (UNDO, REDO, go_to(0), go_to(2), earlier(1), later(1)):
+        for move in (UNDO, REDO, go_to(0), go_to(2), earlier(1), later(1), ago(0)):
             self.assertEqual(run_after(before, move), [[-9]])
 
+    def test_neither_origins_nor_revert_nor_forget_while_a_group_is_open(self):
+        before = [insert(1), insert(1), insert(1), UNDO, OPEN_GROUP]
+        for call in (ORIGINS, revert(2), forget(1), forget(4)):
+            self.assertEqual(run_after(before, call), [[-9]])
+
+    def test_what_is_answered_while_a_group_is_open(self):
+        before = [insert(1), insert(1), insert(1), UNDO, OPEN_GROUP, insert(1)]
+        self.assertEqual(run_after(before, GET_TEXT, text_of(2), state_info(2), LEAVES, path(2, 0), set_kept(2, 1),
+                                   wait(1), CLOSE_GROUP),
+                         [[3, 7, 7, 7], [2, 7, 7], [2, 0, 2, 0, 1, 1, 3], [1, 3], [3, 2, 1, 0], [0], [1], [4]])
+
     def test_a_refused_move_leaves_the_group_and_the_tree(self):
-        for move in (UNDO, REDO, go_to(0), go_to(2), go_to(3), earlier(1), later(1)):
+        for move in (UNDO, REDO, go_to(0), go_to(2), go_to(3), earlier(1), later(1), ago(0), ORIGINS, revert(1),
+                     forget(1)):
             self.assertEqual(run(insert(1), insert(1), UNDO, insert(5), UNDO, OPEN_GROUP, insert(7), move,
                                  CLOSE_GROUP, UNDO, REDO),
                              [[1, 1], [2, 2], [1, 1], [3, 6], [1, 1], [4], [4, 8], [-9], [4], [1, 1], [4, 8]])
@@ -88,7 +101,7 @@ class RefusedGroups(unittest.TestCase):
 
     def test_open_group_comes_ahead_of_other_errors(self):
         for move in (UNDO, REDO, go_to(1), go_to(MOST), earlier(0), earlier(1), earlier(MOST), later(0), later(1),
-                     later(MOST)):
+                     later(MOST), ago(1), ago(MOST), revert(0), revert(1), revert(MOST), forget(0)):
             self.assertEqual(run(OPEN_GROUP, move), [[1], [-9]])
             self.assertEqual(run(OPEN_GROUP, insert(1), move), [[1], [1, 1], [-9]])
 
@@ -99,6 +112,10 @@ class RefusedGroups(unittest.TestCase):
         self.assertEqual(run_after(before, go_to(2)), [[0, 1, 2]])
         self.assertEqual(run_after(before, earlier(1)), [[0, 1, 0, 0]])
         self.assertEqual(run_after(before, later(1)), [[2, 0, 1, 2]])
+        self.assertEqual(run_after(before, ago(0)), [[2, 0, 1, 2]])
+        self.assertEqual(run_after(before, ORIGINS), [[1, 1]])
+        self.assertEqual(run_after(before, revert(1)), [[3, 0]])
+        self.assertEqual(run_after(before, forget(1)), [[2, 2, 0]])
 
 
 class PreferredChildAndGroups(unittest.TestCase):

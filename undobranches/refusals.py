@@ -23,8 +23,29 @@ class NoSuchState(Refusal):
         Refusal.__init__(self, -2)
 
 
+class SeveralChanges(Refusal):
+    """A state with more than one change is to be reverted."""
+
+    def __init__(self):
+        Refusal.__init__(self, -4)
+
+
+class RevertedTextTooLong(Refusal):
+    """A revert would make the text too long."""
+
+    def __init__(self):
+        Refusal.__init__(self, -5)
+
+
 class TextTooLong(Refusal):
     """A change would make the text too long."""
+
+    def __init__(self):
+        Refusal.__init__(self, -6)
+
+
+class NotOnThePath(Refusal):
+    """The root, or a state beside the path from it to the current state, is to be reverted."""
 
     def __init__(self):
         Refusal.__init__(self, -6)
@@ -35,6 +56,13 @@ class NowhereToGo(Refusal):
 
     def __init__(self):
         Refusal.__init__(self, -7)
+
+
+class RegionOverlapped(Refusal):
+    """A later change overlaps the region of the one that is to be reverted."""
+
+    def __init__(self):
+        Refusal.__init__(self, -8)
 
 
 class WrongForGroup(Refusal):
